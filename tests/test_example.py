@@ -1,0 +1,71 @@
+"""Every sentence of the document's example that speaks of tokens or read."""
+
+import unittest
+
+from tests.helper import coded, declaration_of, number, short, tokens_of, tree_of
+from twigtext.calls import read, tokens
+
+EXAMPLE = "module a fn f(x:whole)->whole{return -x^2}"
+
+TREE = """
+90 01 61 00 00 00 00 01 00 00 00 83 01 66 00 00 00 00 01 00 00 00 01 78 01 01 01 01 00 00 00 68 2E 4E 25 01 78 20 01 32
+"""
+
+FAULTS = (
+    ("module if", 2, 7),
+    ("module", 3, 6),
+    ("module a let b = 01", 1, 17),
+    ('module a let b = "x', 3, 19),
+    ("module a fn f() { x }", 2, 20),
+    ("module a fn f() { f() = 1 }", 2, 22),
+    ("", 3, 0),
+    ("module a let b = 1 < 2 < 3", 2, 23),
+    ("module a let b = !1", 1, 17),
+)
+
+
+class Example(unittest.TestCase):
+    def test_the_18_tokens(self):
+        self.assertEqual(len(tokens_of(EXAMPLE)), 18)
+        self.assertEqual(
+            [EXAMPLE[start:end] for kind, start, end in tokens_of(EXAMPLE)],
+            ["module", "a", "fn", "f", "(", "x", ":", "whole", ")", "->", "whole", "{", "return", "-", "x", "^",
+             "2", "}"],
+        )
+        self.assertEqual(
+            [kind for kind, start, end in tokens_of(EXAMPLE)],
+            [0, 1, 0, 1, 5, 1, 5, 0, 5, 5, 0, 5, 0, 5, 1, 5, 3, 5],
+        )
+
+    def test_the_tree_of_40_bytes(self):
+        tree = [int(byte, 16) for byte in TREE.split()]
+        self.assertEqual(len(tree), 40)
+        self.assertEqual(read(coded(EXAMPLE)), [0, 40] + tree)
+
+    def test_its_written_text_has_the_same_tree(self):
+        written = "module a\n\nfn f(x: whole) -> whole {\n  return -x ^ 2\n}\n"
+        self.assertEqual(tree_of(written), tree_of(EXAMPLE))
+
+    def test_needless_parentheses_leave_none(self):
+        inner = [0x49] + number("2") + number("3")
+        value = [0x44, 0x49] + number("1") + inner + number("4")
+        self.assertEqual(declaration_of("let b = (1 - (2 - 3)) < 4"), [0x80] + short("b") + [0] + value)
+        self.assertEqual(declaration_of("let b = 1 - (2 - 3) < 4"), [0x80] + short("b") + [0] + value)
+
+    def test_each_fault(self):
+        for words, rule, place in FAULTS:
+            with self.subTest(words):
+                self.assertEqual(read(coded(words)), [-2, rule, place])
+
+    def test_of_these_faults_tokens_tells_those_of_tokens_alone(self):
+        of_tokens = (FAULTS[2], FAULTS[3], FAULTS[8])
+        for words, rule, place in FAULTS:
+            with self.subTest(words):
+                answer = tokens(coded(words))
+                if (words, rule, place) in of_tokens:
+                    self.assertEqual(answer, [-2, rule, place])
+                else:
+                    self.assertEqual(answer[0], 0)
+
+    def test_the_empty_text_has_no_tokens(self):
+        self.assertEqual(tokens([]), [0, 0])

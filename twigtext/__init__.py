@@ -1,0 +1,1 @@
+"""A language's texts and trees: twigtext.calls holds what may be called."""
