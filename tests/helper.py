@@ -1,6 +1,9 @@
-"""What the tests share: texts as bytes, the parts of trees, and the document's grammar read by itself."""
+"""What the tests share: texts as bytes, the parts of trees, the document's grammar read by itself, and its
+written forms told by themselves."""
 
-from twigtext.calls import read, tokens
+from twigtext.calls import nodes, read, tokens, write
+
+CALLS_OF_TREES = (read, write, nodes)
 
 KEYWORDS = """
 account and as away both break catch clear cut decimal double down else error extended false fibre finally five
@@ -38,14 +41,32 @@ def spelled_tokens(words):
     return [(kind, words[start:end]) for kind, start, end in tokens_of(words)]
 
 
-def tree_of(words):
-    """The tree that is answered."""
-    answer = read(coded(words))
+def bytes_of(call, words):
+    """The bytes that are answered, behind the 0 and how many they are."""
+    answer = call(coded(words))
     if answer[0] != 0:
         raise AssertionError(f"{words!r} is refused: {answer}")
     if len(answer) != 2 + answer[1]:
         raise AssertionError(f"{words!r}: the count is off: {answer}")
     return answer[2:]
+
+
+def tree_of(words):
+    """The tree that is answered."""
+    return bytes_of(read, words)
+
+
+def written_of(words):
+    """The text that is answered as written."""
+    return "".join(chr(byte) for byte in bytes_of(write, words))
+
+
+def nodes_of(words):
+    """The number of nodes that is answered."""
+    answer = nodes(coded(words))
+    if answer[0] != 0 or len(answer) != 2:
+        raise AssertionError(f"{words!r}: {answer}")
+    return answer[1]
 
 
 # The parts of trees, as the document's section on trees tells them.
@@ -119,6 +140,35 @@ def cut_out(tree, start):
     if tree[:len(start)] != start:
         raise AssertionError(f"the tree {tree} doesn't begin with {start}")
     return tree[len(start):]
+
+
+# What is written of parts of programs, cut out of what is written of little else.
+
+def written_declaration(words):
+    return cut_ends(written_of(f"module a {words}"), "module a\n\n", "\n")
+
+
+def written_value(words):
+    return cut_ends(written_declaration(f"let b = {words}"), "let b = ", "")
+
+
+def written_sort(words):
+    return cut_ends(written_declaration(f"let b: {words} = 1"), "let b: ", " = 1")
+
+
+def written_block(words):
+    """What is written of a block within a function's."""
+    return cut_ends(written_declaration("fn f() { " + words + " }"), "fn f() ", "")
+
+
+def written_statement(words):
+    return cut_ends(written_block(words), "{\n  ", "\n}")
+
+
+def cut_ends(words, start, end):
+    if not words.startswith(start) or not words.endswith(end):
+        raise AssertionError(f"{words!r} doesn't begin with {start!r} or end with {end!r}")
+    return words[len(start):len(words) - len(end)]
 
 
 # The document's grammar as it stands there, but that a chain is told by what it ends with, and that a
@@ -273,3 +323,177 @@ class Oracle:
         """All tokens that may come next; END if the program may end."""
         parts = {row[passed] for head, row, passed, start in self.columns[-1] if passed < len(row)}
         return {part for part in parts if part not in self.productions}
+
+
+class Told:
+    """A tree's bytes told from the left by the document's sections on trees and on what is written.
+
+    Each method passes what it's called by and gives back what is written of it; nodes counts the kinds.
+    """
+
+    SORTS = "whole fraction decimal half single double extended interval truth text flags error account value".split()
+    SIGNS = "or and == != < <= > >= + - * / // % ^".split()
+    LEVELS = {"or": (1, 1, 2), "and": (2, 2, 3), "+": (6, 6, 7), "-": (6, 6, 7), "^": (9, 10, 8)}
+
+    def __init__(self, tree):
+        self.tree = tree
+        self.passed = 0
+        self.nodes = 0
+
+    def byte(self):
+        self.passed += 1
+        return self.tree[self.passed - 1]
+
+    def kind(self):
+        self.nodes += 1
+        return self.byte()
+
+    def letters(self, size):
+        return "".join(chr(self.byte()) for at in range(size))
+
+    def word(self):
+        return self.letters(self.byte())
+
+    def text(self):
+        held = self.letters(self.byte() + 256 * self.byte())
+        return '"' + held.replace("\\", "\\\\").replace('"', '\\"').replace("\n", "\\n") + '"'
+
+    def count(self):
+        return self.byte() + 256 * (self.byte() + 256 * (self.byte() + 256 * self.byte()))
+
+    def each(self, tell):
+        return [tell() for at in range(self.count())]
+
+    def row(self, tell):
+        return ", ".join(self.each(tell))
+
+    def maybe(self, before, tell):
+        return before + tell() if self.byte() == 1 else ""
+
+    def flags(self, between):
+        held = self.byte()
+        return between.join(flag for bit, flag in enumerate(FLAGS) if held & 1 << bit)
+
+    def sort(self):
+        kind = self.kind()
+        if kind <= 0x0E:
+            return self.SORTS[kind - 1]
+        if kind == 0x0F:
+            return f"packed {self.word()}"
+        if kind == 0x10:
+            return f"list of {self.sort()}"
+        if kind == 0x11:
+            return "fibre" + self.maybe(" of ", self.sort)
+        if kind == 0x12:
+            return f"fn({self.row(self.sort)})" + self.maybe(" -> ", self.sort)
+        return self.word() if kind == 0x13 else f"{self.word()}.{self.word()}"
+
+    def value(self, level=0):
+        own, words = self.value_and_level()
+        return f"({words})" if own < level else words
+
+    def value_and_level(self):
+        kind = self.kind()
+        if kind >= 0x40:
+            return self.between_two(self.SIGNS[kind - 0x40])
+        return {
+            0x20: lambda: (11, self.word()), 0x21: lambda: (11, self.text()), 0x22: lambda: (11, "true"),
+            0x23: lambda: (11, "false"), 0x24: lambda: (11, "flags"), 0x25: lambda: (11, self.word()),
+            0x26: lambda: (11, self.word()), 0x27: lambda: (11, f"only({self.flags(', ')})"),
+            0x28: lambda: (11, f"[{self.row(self.value)}]"),
+            0x29: lambda: (11, f"[{self.value()} .. {self.value()}]"),
+            0x2A: lambda: (11, f"make {self.made()}({self.row(self.setting)})"),
+            0x2B: lambda: (10, f"{self.value(10)}({self.row(self.value)})"),
+            0x2C: lambda: (10, f"{self.value(10)}[{self.value()}]"),
+            0x2D: lambda: (10, f"{self.value(10)}.{self.word()}"),
+            0x2E: lambda: (8, f"-{self.value(8)}"), 0x2F: lambda: (3, f"not {self.value(3)}"),
+            0x30: lambda: (8, f"spawn {self.value(10)}"),
+            0x31: lambda: (8, f"resume {self.value(10)}" + self.maybe(" giving ", lambda: self.value(8))),
+            0x32: lambda: (8, f"picture {self.text()} of {self.value(10)}"),
+            0x33: lambda: (0, f"if {self.value()} then {self.value()} else {self.value()}"),
+            0x34: lambda: (5, f"{self.value(5)} as {self.sort()}" + self.maybe(" ", self.word) + self.rounding()),
+        }[kind]()
+
+    def between_two(self, sign):
+        usual = (4, 5, 5) if sign[0] in "=!<>" else (7, 7, 8)
+        own, left, right = self.LEVELS.get(sign, usual)
+        return own, f"{self.value(left)} {sign} {self.value(right)}"
+
+    def made(self):
+        return f"{self.word()}.{self.word()}" if self.byte() == 1 else self.word()
+
+    def setting(self):
+        return f"{self.word()}: {self.value()}"
+
+    def rounding(self):
+        byte = self.byte()
+        return " " + ROUNDINGS[byte - 1] if byte > 0 else ""
+
+    def lines(self, rows, deep):
+        if rows == []:
+            return "{}"
+        blanks = " " * min(32, 2 * deep + 2)
+        return "{\n" + "".join(f"{blanks}{row}\n" for row in rows) + " " * min(32, 2 * deep) + "}"
+
+    def block(self, deep):
+        return self.lines(self.each(lambda: self.statement(deep + 1)), deep)
+
+    def statement(self, deep):
+        kind = self.kind()
+        return {
+            0x60: self.let, 0x61: lambda: f"{self.value(10)} = {self.value()}", 0x62: lambda: self.value(10),
+            0x63: lambda: f"flags = {self.value()}",
+            0x64: lambda: " else ".join(self.each(lambda: f"if {self.value()} {self.block(deep)}"))
+            + self.maybe(" else ", lambda: self.block(deep)),
+            0x65: lambda: f"while {self.value()} {self.block(deep)}",
+            0x66: lambda: f"for {self.word()} in {self.value()}{self.maybe(' to ', self.value)} {self.block(deep)}",
+            0x67: lambda: f"match {self.value()} {self.cases(deep)}",
+            0x68: lambda: f"return {self.value()}", 0x69: lambda: "leave", 0x6A: lambda: "break",
+            0x6B: lambda: "next", 0x6C: lambda: f"with {self.row(self.mode)} {self.block(deep)}",
+            0x6D: lambda: f"try {self.block(deep)}" + self.maybe(" catch ", lambda: f"{self.word()} {self.block(deep)}")
+            + self.maybe(" finally ", lambda: self.block(deep)),
+            0x6E: lambda: f"raise {self.value()}", 0x6F: lambda: f"say {self.row(self.value)}",
+            0x70: lambda: f"yield {self.value()}" + self.maybe(" into ", self.word),
+            0x71: lambda: f"post {self.value()}: {self.value()} from {self.value()}" + self.maybe(" ", self.text),
+        }[kind]()
+
+    def let(self):
+        return f"let {self.word()}{self.maybe(': ', self.sort)} = {self.value()}"
+
+    def cases(self, deep):
+        rows = self.each(lambda: f"is {self.sort()} {self.word()} {self.block(deep + 1)}")
+        last = self.maybe("else ", lambda: self.block(deep + 1))
+        return self.lines(rows + [last] if last else rows, deep)
+
+    def mode(self):
+        which = self.byte()
+        if which == 0:
+            return "rounding " + ROUNDINGS[self.byte()]
+        if which == 1:
+            return "precision " + self.word()
+        return "trap " + self.flags(" ") if which == 2 else "flush " + ["in", "out", "both"][self.byte()]
+
+    def field(self):
+        return f"{self.word()}: {self.sort()}"
+
+    def declaration(self):
+        kind = self.kind()
+        if kind == 0x80:
+            return self.let()
+        if kind == 0x82:
+            return f"account {self.word()} {self.word()}"
+        name = self.word()
+        if kind == 0x81:
+            fields = self.row(self.field)
+            return f"record {name} " + ("{ " + fields + " }" if fields else "{}")
+        sorts = self.row(self.word)
+        head = f"fn {name}" + (f"[{sorts}]" if sorts else "")
+        return head + f"({self.row(self.field)})" + self.maybe(" -> ", self.sort) + " " + self.block(0)
+
+    def program(self):
+        self.kind()
+        words = f"module {self.word()}\n" + "".join(self.each(lambda: f"use {self.word()}\n"))
+        words += "".join(self.each(lambda: f"\n{self.declaration()}\n"))
+        if self.passed != len(self.tree):
+            raise AssertionError(f"{len(self.tree) - self.passed} bytes of the tree are left")
+        return words

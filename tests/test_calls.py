@@ -3,53 +3,60 @@
 import time
 import unittest
 
-from tests.helper import coded, count, counted, name, number, program, short
-from twigtext.calls import read, tokens
+from tests.helper import CALLS_OF_TREES, coded, count, counted, name, number, program, short
+from twigtext.calls import nodes, read, tokens, write
 
+ALL_CALLS = (tokens,) + CALLS_OF_TREES
 LONGEST = 65536
 SECONDS = 20
 
 
 class Refusals(unittest.TestCase):
-    def both_answer(self, text, answer):
-        self.assertEqual(tokens(text), answer)
-        self.assertEqual(read(text), answer)
+    def all_answer(self, text, answer):
+        for call in ALL_CALLS:
+            self.assertEqual(call(text), answer)
+
+    def trees_answer(self, text, answer):
+        for call in CALLS_OF_TREES:
+            self.assertEqual(call(text), answer)
 
     def test_65536_and_65537_bytes(self):
         text = coded("module a") + [32] * (LONGEST - 8)
         self.assertEqual(tokens(text), [0, 2, 0, 0, 6, 1, 7, 8])
         self.assertEqual(read(text), [0, 11, 0x90, 1, 97, 0, 0, 0, 0, 0, 0, 0, 0])
-        self.both_answer(text + [32], [-1])
-        self.both_answer([32] * 66000, [-1])
+        self.assertEqual(write(text), [0, 9] + coded("module a\n"))
+        self.assertEqual(nodes(text), [0, 1])
+        self.all_answer(text + [32], [-1])
+        self.all_answer([32] * 66000, [-1])
 
     def test_a_fault_at_the_end_of_a_text_as_long_as_is_allowed(self):
-        self.both_answer(coded("module a") + [10] * (LONGEST - 9) + [0], [-2, 1, LONGEST - 1])
-        self.assertEqual(read([32] * LONGEST), [-2, 3, LONGEST])
+        self.all_answer(coded("module a") + [10] * (LONGEST - 9) + [0], [-2, 1, LONGEST - 1])
+        self.trees_answer([32] * LONGEST, [-2, 3, LONGEST])
         self.assertEqual(tokens([32] * LONGEST), [0, 0])
 
     def test_too_long_goes_before_too_deep_and_before_faults(self):
-        self.both_answer(coded("(" * 65537), [-1])
-        self.both_answer([0] * 65537, [-1])
-        self.both_answer(coded("module a let b = " + "(" * 101) + [0] * 66000, [-1])
+        self.all_answer(coded("(" * 65537), [-1])
+        self.all_answer([0] * 65537, [-1])
+        self.all_answer(coded("module a let b = " + "(" * 101) + [0] * 66000, [-1])
 
     def test_too_deep_goes_before_faults(self):
-        self.both_answer(coded("(" * 65536), [-6])
-        self.both_answer(coded(")" + "(" * 101), [-6])
-        self.both_answer(coded("(" * 101 + " 01 !"), [-6])
-        self.both_answer(coded("+ " * 101 + '"x'), [-6])
+        self.all_answer(coded("(" * 65536), [-6])
+        self.all_answer(coded(")" + "(" * 101), [-6])
+        self.all_answer(coded("(" * 101 + " 01 !"), [-6])
+        self.all_answer(coded("+ " * 101 + '"x'), [-6])
 
     def test_a_depth_of_100_goes_on_to_faults(self):
         self.assertEqual(tokens(coded("(" * 100 + " 01")), [-2, 1, 101])
-        self.assertEqual(read(coded("module a let b = " + "(" * 100 + " 01")), [-2, 1, 118])
-        self.assertEqual(read(coded("module a let b = " + "(" * 100)), [-2, 3, 117])
+        self.trees_answer(coded("module a let b = " + "(" * 100 + " 01"), [-2, 1, 118])
+        self.trees_answer(coded("module a let b = " + "(" * 100), [-2, 3, 117])
 
     def test_tokens_is_refused_by_faults_of_tokens_alone(self):
         self.assertEqual(tokens(coded("module if")), [0, 2, 0, 0, 6, 0, 7, 9])
         self.assertEqual(tokens(coded("1 2 } let")), [0, 4, 3, 0, 1, 3, 2, 3, 5, 4, 5, 0, 6, 9])
-        self.both_answer(coded("module 01"), [-2, 1, 7])
-        self.both_answer(coded('module "'), [-2, 3, 8])
+        self.all_answer(coded("module 01"), [-2, 1, 7])
+        self.all_answer(coded('module "'), [-2, 3, 8])
         self.assertEqual(tokens(coded("} 01")), [-2, 1, 2])
-        self.assertEqual(read(coded("} 01")), [-2, 2, 0])
+        self.trees_answer(coded("} 01"), [-2, 2, 0])
 
 
 class InTime(unittest.TestCase):
@@ -71,6 +78,13 @@ class InTime(unittest.TestCase):
         self.assertEqual(answer[:2], [0, len(tree)])
         self.assertTrue(answer[2:] == tree)
 
+    def is_written(self, text, words, number):
+        """What is written of the text, and how many nodes it has."""
+        answer = write(text)
+        self.assertEqual(answer[:2], [0, len(words)])
+        self.assertTrue(answer[2:] == coded(words))
+        self.assertEqual(nodes(text), [0, number])
+
 
 class LongTexts(InTime):
     def test_many_signs(self):
@@ -82,26 +96,31 @@ class LongTexts(InTime):
     def test_many_names_and_lists(self):
         text, many = self.filled("module a let b = [1", ",1", "]")
         self.is_tree(text, program([0x80] + short("b") + [0, 0x28] + count(many + 1) + number("1") * (many + 1)))
+        self.is_written(text, "module a\n\nlet b = [1" + ", 1" * many + "]\n", many + 4)
 
     def test_many_statements(self):
         text, many = self.filled("module a fn f(){", "a=b()", "}")
         statement = [0x61] + name("a") + [0x2B] + name("b") + count(0)
         self.is_tree(text, program(
             [0x83] + short("f") + count(0) + count(0) + [0] + count(many) + statement * many))
+        self.is_written(text, "module a\n\nfn f() {\n" + "  a = b()\n" * many + "}\n", 4 * many + 2)
 
     def test_many_calls_in_a_row_are_too_deep(self):
         text, many = self.filled("module a fn f(){", "a()", "}")
-        self.assertEqual(read(text), [-6])
+        for call in CALLS_OF_TREES:
+            self.assertEqual(call(text), [-6])
 
     def test_many_declarations(self):
         text, many = self.filled("module a", " let b=1", "")
         self.is_tree(text, [0x90] + short("a") + count(0) + count(many) + ([0x80] + short("b") + [0] + number("1")) * many)
+        self.is_written(text, "module a\n" + "\nlet b = 1\n" * many, 2 * many + 1)
 
     def test_many_branches(self):
         text, many = self.filled("module a fn f(){if b{}", "else if b{}", "}")
         self.is_tree(text, program(
             [0x83] + short("f") + count(0) + count(0) + [0] + count(1) + [0x64] + count(many + 1)
             + (name("b") + count(0)) * (many + 1) + [0]))
+        self.is_written(text, "module a\n\nfn f() {\n  if b {}" + " else if b {}" * many + "\n}\n", many + 4)
 
     def test_a_long_word_a_long_number_a_long_comment(self):
         self.assertEqual(tokens(coded("a" * LONGEST)), [-2, 1, 0])
@@ -114,6 +133,15 @@ class LongTexts(InTime):
         text, many = self.filled("module a let b = [1", ',"' + "\\n" * 1024 + '"', "]")
         self.is_tree(text, program(
             [0x80] + short("b") + [0, 0x28] + counted(number("1"), *[[0x21, 0, 4] + [10] * 1024] * many)))
+        self.is_written(
+            text, "module a\n\nlet b = [1" + (', "' + "\\n" * 1024 + '"') * many + "]\n", many + 4)
+
+    def test_many_statements_in_many_blocks(self):
+        text, many = self.filled("module a fn f(){" + "while b{" * 20, "leave ", "}" * 21)
+        heads = [" " * min(32, 2 * deep) + "while b {\n" for deep in range(1, 21)]
+        ends = [" " * min(32, 2 * deep) + "}\n" for deep in range(20, -1, -1)]
+        self.is_written(
+            text, "module a\n\nfn f() {\n" + "".join(heads) + (" " * 32 + "leave\n") * many + "".join(ends), many + 42)
 
 
 class DeepTexts(InTime):
@@ -124,22 +152,27 @@ class DeepTexts(InTime):
         sort = ([0x12] + count(0) + [1]) * many + [0x01]
         self.assertGreater(many, 10000)
         self.is_tree(text, program([0x80] + short("b") + [1] + sort + number("1")))
+        self.is_written(text, "module a\n\nlet b: " + "fn() -> " * many + "whole = 1\n", many + 4)
 
     def test_as_upon_as(self):
         text, many = self.filled("module a let b=c", " as account", "")
         self.assertGreater(many, 5000)
         self.is_tree(text, program([0x80] + short("b") + [0] + [0x34] * many + name("c") + [0x0D, 0, 0] * many))
+        self.is_written(text, "module a\n\nlet b = c" + " as account" * many + "\n", 2 * many + 3)
 
     def test_or_upon_or(self):
         text, many = self.filled("module a let b=c", " or c as account", "")
         cast = [0x34] + name("c") + [0x0D, 0, 0]
         self.is_tree(text, program([0x80] + short("b") + [0] + [0x40] * many + name("c") + cast * many))
+        self.is_written(text, "module a\n\nlet b = c" + " or c as account" * many + "\n", 4 * many + 3)
 
     def test_if_within_if(self):
         text, many = self.filled("module a let b=", "if c as account then d else ", "e")
         branch = [0x33, 0x34] + name("c") + [0x0D, 0, 0] + name("d")
         self.assertGreater(many, 2000)
         self.is_tree(text, program([0x80] + short("b") + [0] + branch * many + name("e")))
+        self.is_written(
+            text, "module a\n\nlet b = " + "if c as account then d else " * many + "e\n", 5 * many + 3)
 
     def test_if_that_never_goes_on(self):
         text, many = self.filled("module a let b=", "if ", "")
@@ -148,33 +181,42 @@ class DeepTexts(InTime):
         self.assertEqual(read(text), [-2, 2, len(text) - 4])
 
     def test_as_deep_as_is_allowed(self):
-        self.is_tree(
-            coded("module a let b = " + "(" * 100 + "1" + ")" * 100), program([0x80] + short("b") + [0] + number("1")))
-        self.is_tree(
-            coded("module a let b = " + "[" * 100 + "]" * 100),
-            program([0x80] + short("b") + [0] + ([0x28] + count(1)) * 99 + [0x28] + count(0)))
+        text = coded("module a let b = " + "(" * 100 + "1" + ")" * 100)
+        self.is_tree(text, program([0x80] + short("b") + [0] + number("1")))
+        self.is_written(text, "module a\n\nlet b = 1\n", 3)
+        text = coded("module a let b = " + "[" * 100 + "]" * 100)
+        self.is_tree(text, program([0x80] + short("b") + [0] + ([0x28] + count(1)) * 99 + [0x28] + count(0)))
+        self.is_written(text, "module a\n\nlet b = " + "[" * 100 + "]" * 100 + "\n", 102)
+
+    def test_parentheses_as_deep_as_is_allowed(self):
+        # A ( and the sign before it make 2 of the depth.
+        value = "1 - (" * 49 + "1 - 1" + ")" * 49
+        self.is_written(coded(f"module a let b = {value}"), f"module a\n\nlet b = {value}\n", 103)
+        value = "(" * 49 + "1 ^ 1" + ") ^ 1" * 49
+        self.is_written(coded(f"module a let b = {value}"), f"module a\n\nlet b = {value}\n", 103)
 
 
 class HandedIn(unittest.TestCase):
     TEXTS = (
         "module a fn f(x:whole)->whole{return -x^2}", 'module a let b = "\\n\\"" # c', "module if", "01", "(" * 101,
         "module a let b = make m.r(x: [1 .. 2]) with", "", " " * 65537,
+        'module a use b record c {d: fn()} fn f() { match (a) { is d e { say "\\n", (1) } else { with trap zero {} } } }',
     )
 
     def test_the_list_is_as_it_was(self):
         for words in self.TEXTS:
-            for call in (tokens, read):
+            for call in ALL_CALLS:
                 text = coded(words)
                 call(text)
                 self.assertEqual(text, coded(words))
 
     def test_the_list_is_not_changed_for_a_while_either(self):
         for words in self.TEXTS:
-            for call in (tokens, read):
+            for call in ALL_CALLS:
                 self.assertEqual(call(Unchanging(coded(words))), call(coded(words)))
 
     def test_a_second_call_answers_as_the_first(self):
-        answers = [(call, words, call(coded(words))) for words in self.TEXTS for call in (tokens, read)]
+        answers = [(call, words, call(coded(words))) for words in self.TEXTS for call in ALL_CALLS]
         for call, words, answer in reversed(answers):
             text = coded(words)
             self.assertEqual(call(text), answer)
@@ -182,7 +224,7 @@ class HandedIn(unittest.TestCase):
 
     def test_an_answer_that_is_changed_leaves_the_next_as_it_was(self):
         for words in self.TEXTS:
-            for call in (tokens, read):
+            for call in ALL_CALLS:
                 first = call(coded(words))
                 kept = list(first)
                 first.clear()
@@ -190,7 +232,7 @@ class HandedIn(unittest.TestCase):
 
     def test_answers_are_lists_of_whole_numbers(self):
         for words in self.TEXTS + ("module a fn f() { with trap zero, flush in { say only(zero) as whole } }",):
-            for call in (tokens, read):
+            for call in ALL_CALLS:
                 answer = call(coded(words))
                 self.assertIs(type(answer), list)
                 self.assertTrue(all(type(entry) is int for entry in answer), answer)

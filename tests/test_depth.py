@@ -2,7 +2,7 @@
 
 import unittest
 
-from tests.helper import coded
+from tests.helper import CALLS_OF_TREES, coded
 from twigtext.calls import read, tokens
 
 RISING_SIGNS = "- + * / // % ^ == != < <= > >= -> .".split()
@@ -119,8 +119,9 @@ class DepthOfPrograms(unittest.TestCase):
 
     def is_the_last(self, form, depth_of_form=0):
         most = 100 - depth_of_form
-        self.assertEqual(read(coded(form(most)))[0], 0)
-        self.assertEqual(read(coded(form(most + 1))), [-6])
+        for call in CALLS_OF_TREES:
+            self.assertEqual(call(coded(form(most)))[0], 0)
+            self.assertEqual(call(coded(form(most + 1))), [-6])
 
     def test_parentheses(self):
         self.is_the_last(lambda n: "module a let b = " + "(" * n + "1" + ")" * n)

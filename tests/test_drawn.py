@@ -1,14 +1,16 @@
-"""Programs drawn by lot from a fixed seed: a tree and its text are made side by side, then the text is read.
+"""Programs drawn by lot from a fixed seed: a tree and its text are made side by side, then the text is read
+and written.
 
 The text has just the parentheses that the document's table of levels asks for, some needless ones, and
-blanks, line ends, semicolons and comments between its tokens.
+blanks, line ends, semicolons and comments between its tokens. What is needless is drawn by a lot of its own:
+so one tree has many texts.
 """
 
 import random
 import unittest
 
-from tests.helper import FLAGS, ROUNDINGS, coded, counted, long, short
-from twigtext.calls import read, tokens
+from tests.helper import FLAGS, ROUNDINGS, Told, coded, counted, long, short, spelled_tokens
+from twigtext.calls import nodes, read, tokens, write
 
 BINARY = (
     ("or", 0x40, 1, 1, 2), ("and", 0x41, 2, 2, 3), ("==", 0x42, 4, 5, 5), ("!=", 0x43, 4, 5, 5),
@@ -25,8 +27,10 @@ whole fraction decimal half single double extended interval truth text flags err
 class Drawer:
     """Draws parts of programs: each as its tokens and its tree's bytes; expressions with their level too."""
 
-    def __init__(self, seed):
+    def __init__(self, seed, look=0, needless=0.1):
         self.lot = random.Random(seed)
+        self.look = random.Random(f"{seed} {look}")
+        self.needless = needless
 
     def name(self):
         word = self.lot.choice(["a", "b9", "c_d", "e5", "n" * 31, "lets"])
@@ -93,7 +97,9 @@ class Drawer:
     def at_level(self, level, deep):
         """E(k): an expression within parentheses if its own level is below."""
         words, tree, own = self.expression(deep)
-        if own < level or self.lot.random() < 0.1:
+        if own < level:
+            words = ["("] + words + [")"]
+        while self.look.random() < self.needless:
             words = ["("] + words + [")"]
         return words, tree
 
@@ -363,14 +369,21 @@ class Drawer:
         """The tokens with all sorts of nothing between them, or none where none is needed."""
         text = ""
         for word in words:
-            gap = self.lot.choice([" ", "\n", ";", " # c\n", "  ", ""])
+            gap = self.look.choice([" ", "\n", ";", " # c\n", "  ", ""])
             text += (gap or self.needed_gap(text, word)) + word
-        return text + self.lot.choice(["", "\n", " # end"])
+        return text + self.look.choice(["", "\n", " # end"])
 
     def needed_gap(self, text, word):
         """Two tokens need nothing between them if one of them is a sign that stays alone."""
         alone = "()[]{},:^*+"
         return "" if text == "" or text[-1] in alone or word[0] in alone else " "
+
+
+def changed(lot, text):
+    """The text with a byte changed, left out or put in."""
+    place = lot.randrange(len(text))
+    byte = lot.choice(coded("a1A \"\\#.-=(){}[],:\n!") + [lot.randrange(256)])
+    return text[:place] + lot.choice([[], [byte], [byte, text[place]]]) + text[place + 1:]
 
 
 class Drawn(unittest.TestCase):
@@ -398,12 +411,7 @@ class Drawn(unittest.TestCase):
             drawer = Drawer(seed)
             text = coded(drawer.spread(drawer.program()[0]))
             for change in range(4):
-                self.judge(self.changed(drawer.lot, text))
-
-    def changed(self, lot, text):
-        place = lot.randrange(len(text))
-        byte = lot.choice(coded("a1A \"\\#.-=(){}[],:\n!") + [lot.randrange(256)])
-        return text[:place] + lot.choice([[], [byte], [byte, text[place]]]) + text[place + 1:]
+                self.judge(changed(drawer.lot, text))
 
     def judge(self, text):
         answer = read(text)
@@ -422,3 +430,74 @@ class Drawn(unittest.TestCase):
         if answer[1] == 2:
             before = read(text[:answer[2]])
             self.assertTrue(before[0] == 0 or before == [-2, 3, answer[2]], (text, answer, before))
+
+
+class DrawnAndWritten(unittest.TestCase):
+    def written(self, text):
+        answer = write(text)
+        self.assertEqual(answer[:2], [0, len(answer) - 2])
+        return answer[2:]
+
+    def is_read_back(self, text):
+        """T2; and what was written is written as it stands."""
+        written = self.written(text)
+        self.assertNotEqual(read(written), [-6], "draw less deep")
+        self.assertEqual(read(written), read(text))
+        self.assertEqual(self.written(written), written)
+
+    def test_programs_are_written_by_the_documents_forms(self):
+        for seed in range(1500):
+            drawer = Drawer(seed)
+            words, tree = drawer.program()
+            text = coded(drawer.spread(words))
+            told = Told(tree)
+            self.assertEqual("".join(map(chr, self.written(text))), told.program(), f"seed {seed}")
+            self.assertEqual(nodes(text), [0, told.nodes], f"seed {seed}")
+
+    def test_what_is_written_is_read_as_the_same_tree(self):
+        for seed in range(1000):
+            drawer = Drawer(seed)
+            words, tree = drawer.program()
+            self.is_read_back(coded(drawer.spread(words)))
+
+    def test_changed_programs_are_read_back_too(self):
+        """Those that are still programs with a byte changed, left out or put in."""
+        found = 0
+        for seed in range(600):
+            drawer = Drawer(seed)
+            text = coded(drawer.spread(drawer.program()[0]))
+            for change in range(4):
+                other = changed(drawer.lot, text)
+                if read(other)[0] == 0:
+                    found += 1
+                    self.is_read_back(other)
+                else:
+                    self.assertEqual(write(other), read(other))
+                    self.assertEqual(nodes(other), read(other))
+        self.assertGreater(found, 200)
+
+    def test_texts_of_one_tree_are_written_alike(self):
+        """T3."""
+        for seed in range(300):
+            texts = []
+            for look in range(4):
+                drawer = Drawer(seed, look, 0.3 * (look % 2))
+                words, tree = drawer.program()
+                texts.append(coded(drawer.spread(words)))
+                self.assertEqual(read(texts[-1]), [0, len(tree)] + tree)
+            answers = [(write(text), nodes(text)) for text in texts]
+            self.assertEqual(answers, answers[:1] * 4, f"seed {seed}")
+
+    def test_no_parenthesis_is_written_but_those_that_are_needed(self):
+        """The tokens of what is written are those that were drawn without needless parentheses."""
+        for seed in range(600):
+            words, tree = Drawer(seed, 0, 0).program()
+            written = "".join(map(chr, self.written(coded(" ".join(words)))))
+            spelled = [word for kind, word in spelled_tokens(written)]
+            self.assertEqual(without_sets(spelled), without_sets(words), f"seed {seed}")
+
+
+def without_sets(words):
+    """A set's flags may be drawn in any order, and one of them more than once."""
+    row = [word for word in words if word not in FLAGS]
+    return [word for at, word in enumerate(row) if word != "," or row[at - 1:at] not in (["("], [","])]

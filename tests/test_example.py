@@ -1,14 +1,22 @@
-"""Every sentence of the document's example that speaks of tokens or read."""
+"""Every sentence of the document's example that speaks of tokens, read, write or nodes."""
 
 import unittest
 
-from tests.helper import coded, declaration_of, number, short, tokens_of, tree_of
-from twigtext.calls import read, tokens
+from tests.helper import CALLS_OF_TREES, coded, declaration_of, number, short, tokens_of, tree_of, written_declaration
+from twigtext.calls import nodes, read, tokens, write
 
 EXAMPLE = "module a fn f(x:whole)->whole{return -x^2}"
 
 TREE = """
 90 01 61 00 00 00 00 01 00 00 00 83 01 66 00 00 00 00 01 00 00 00 01 78 01 01 01 01 00 00 00 68 2E 4E 25 01 78 20 01 32
+"""
+
+WRITTEN = """\
+module a
+
+fn f(x: whole) -> whole {
+  return -x ^ 2
+}
 """
 
 FAULTS = (
@@ -42,20 +50,27 @@ class Example(unittest.TestCase):
         self.assertEqual(len(tree), 40)
         self.assertEqual(read(coded(EXAMPLE)), [0, 40] + tree)
 
-    def test_its_written_text_has_the_same_tree(self):
-        written = "module a\n\nfn f(x: whole) -> whole {\n  return -x ^ 2\n}\n"
-        self.assertEqual(tree_of(written), tree_of(EXAMPLE))
+    def test_its_text(self):
+        self.assertEqual(write(coded(EXAMPLE)), [0, len(WRITTEN)] + coded(WRITTEN))
+        self.assertEqual(write(coded(WRITTEN)), [0, len(WRITTEN)] + coded(WRITTEN))
+        self.assertEqual(tree_of(WRITTEN), tree_of(EXAMPLE))
+
+    def test_the_9_nodes(self):
+        self.assertEqual(nodes(coded(EXAMPLE)), [0, 9])
+        self.assertEqual(nodes(coded(WRITTEN)), [0, 9])
 
     def test_needless_parentheses_leave_none(self):
         inner = [0x49] + number("2") + number("3")
         value = [0x44, 0x49] + number("1") + inner + number("4")
         self.assertEqual(declaration_of("let b = (1 - (2 - 3)) < 4"), [0x80] + short("b") + [0] + value)
         self.assertEqual(declaration_of("let b = 1 - (2 - 3) < 4"), [0x80] + short("b") + [0] + value)
+        self.assertEqual(written_declaration("let b = (1 - (2 - 3)) < 4"), "let b = 1 - (2 - 3) < 4")
 
     def test_each_fault(self):
         for words, rule, place in FAULTS:
-            with self.subTest(words):
-                self.assertEqual(read(coded(words)), [-2, rule, place])
+            for call in CALLS_OF_TREES:
+                with self.subTest(words, call=call):
+                    self.assertEqual(call(coded(words)), [-2, rule, place])
 
     def test_of_these_faults_tokens_tells_those_of_tokens_alone(self):
         of_tokens = (FAULTS[2], FAULTS[3], FAULTS[8])

@@ -2,7 +2,7 @@
 
 import unittest
 
-from tests.helper import KEYWORDS, SIGNS, Oracle, coded
+from tests.helper import CALLS_OF_TREES, KEYWORDS, SIGNS, Oracle, coded
 from twigtext.calls import read
 
 # Each token by how the document's grammar names it, and how it's written here.
@@ -179,7 +179,8 @@ class EachPlace(unittest.TestCase):
 
 class ByHand(unittest.TestCase):
     def is_fault(self, words, rule, place):
-        self.assertEqual(read(coded(words)), [-2, rule, place], words)
+        for call in CALLS_OF_TREES:
+            self.assertEqual(call(coded(words)), [-2, rule, place], words)
 
     def test_places_are_the_tokens_first_bytes(self):
         self.is_fault("module  \n  whole", 2, 11)

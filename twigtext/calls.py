@@ -4,7 +4,8 @@ from twigtext.depth import depth
 from twigtext.parse import parse
 from twigtext.refusals import Fault, Refused, TooDeep, TooLong
 from twigtext.scan import scan
-from twigtext.tree import tree_bytes
+from twigtext.tree import count_nodes, tree_bytes
+from twigtext.writing import written
 
 MOST_BYTES = 65536
 MOST_DEPTH = 100
@@ -26,11 +27,33 @@ def tokens(text):
 def read(text):
     """The text's tree: how many bytes, then the bytes."""
     try:
-        tree = parse(text, scan_allowed(text))
+        told = tree_bytes(parse_allowed(text))
     except Refused as e:
         return e.numbers
-    told = tree_bytes(tree)
     return [0, len(told)] + told
+
+
+def write(text):
+    """The text that the text's tree has: how many bytes, then the bytes."""
+    try:
+        told = written(tree_bytes(parse_allowed(text)))
+    except Refused as e:
+        return e.numbers
+    return [0, len(told)] + told
+
+
+def nodes(text):
+    """How many nodes the text's tree has."""
+    try:
+        tree = parse_allowed(text)
+    except Refused as e:
+        return e.numbers
+    return [0, count_nodes(tree)]
+
+
+def parse_allowed(text):
+    """The tree of a text that isn't refused."""
+    return parse(text, scan_allowed(text))
 
 
 def scan_allowed(text):

@@ -1,6 +1,6 @@
-"""Leaves: the bytes by which names, codes, numbers and texts stand in a tree."""
+"""Leaves: the bytes by which names, codes, numbers and texts stand in a tree, and texts in a text again."""
 
-from twigtext.scan import BACKSLASH, KEYWORD, LINE_END, SIGN, SMALL_N, TEXT
+from twigtext.scan import BACKSLASH, KEYWORD, LINE_END, QUOTE, SIGN, SMALL_N, TEXT
 from twigtext.tree import low_first
 
 
@@ -26,3 +26,16 @@ def item_bytes(items):
             held.append(items[place])
         place += 1
     return held
+
+
+def text_items(held):
+    """The items by which these bytes stand between a text's quotes."""
+    items = []
+    for byte in held:
+        if byte == LINE_END:
+            items.extend([BACKSLASH, SMALL_N])
+        elif byte in (BACKSLASH, QUOTE):
+            items.extend([BACKSLASH, byte])
+        else:
+            items.append(byte)
+    return items

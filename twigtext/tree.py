@@ -59,6 +59,18 @@ def tree_bytes(twig):
     return told
 
 
+def count_nodes(twig):
+    """How many nodes a twig and all within it are: those twigs that have a kind."""
+    found = 0
+    parts = [twig]
+    while len(parts) > 0:
+        part = parts.pop()
+        if isinstance(part, Twig):
+            found += 1 if isinstance(part.form, int) else 0
+            parts.extend(part.parts)
+    return found
+
+
 def head_bytes(twig):
     if twig.form == "@row":
         return []
