@@ -1,9 +1,20 @@
 """What the tests share: texts as bytes, the parts of trees, the document's grammar read by itself, and its
 written forms told by themselves."""
 
-from twigtext.calls import nodes, read, tokens, write
+from twigtext.calls import at, kinds, nodes, read, tokens, write
 
-CALLS_OF_TREES = (read, write, nodes)
+GREATEST = 4294967295
+
+
+def first_node(text):
+    return at(0, text)
+
+
+def greatest_node(text):
+    return at(GREATEST, text)
+
+
+CALLS_OF_TREES = (read, write, nodes, kinds, first_node)
 
 KEYWORDS = """
 account and as away both break catch clear cut decimal double down else error extended false fibre finally five
@@ -30,7 +41,7 @@ def tokens_of(words):
     answer = tokens(coded(words))
     if answer[0] != 0:
         raise AssertionError(f"{words!r} is refused: {answer}")
-    triples = [tuple(answer[at:at + 3]) for at in range(2, len(answer), 3)]
+    triples = [tuple(answer[place:place + 3]) for place in range(2, len(answer), 3)]
     if len(triples) != answer[1] or len(answer) != 2 + 3 * answer[1]:
         raise AssertionError(f"{words!r}: the count is off: {answer}")
     return triples
@@ -67,6 +78,72 @@ def nodes_of(words):
     if answer[0] != 0 or len(answer) != 2:
         raise AssertionError(f"{words!r}: {answer}")
     return answer[1]
+
+
+def node_of(k, words):
+    """The four numbers that are answered of a node."""
+    answer = at(k, coded(words))
+    if answer[0] != 0 or len(answer) != 5:
+        raise AssertionError(f"node {k} of {words!r}: {answer}")
+    return answer[1:]
+
+
+def all_nodes_of(words):
+    """The four numbers of each node."""
+    return [node_of(k, words) for k in range(nodes_of(words))]
+
+
+def kinds_of(words):
+    """The kinds that are answered and how many nodes of each there are, as pairs."""
+    answer = kinds(coded(words))
+    if answer[0] != 0 or len(answer) != 2 + 2 * answer[1]:
+        raise AssertionError(f"{words!r}: {answer}")
+    return [tuple(answer[place:place + 2]) for place in range(2, len(answer), 2)]
+
+
+# Words in which nodes are marked: "@48" begins a node of that kind, "@" ends the one that was begun last.
+
+def marked(words, kind):
+    return [f"@{kind:02X}"] + words + ["@"]
+
+
+def without_marks(words):
+    """The words that are no marks; and of each node, in the order in which they begin: its kind, how many words
+    stand before its first one, how many up to its last one, how many nodes it has."""
+    plain, found, begun = [], [], []
+    for word in words:
+        if word == "@":
+            node = begun.pop()
+            found[node] = found[node][:2] + (len(plain), len(found) - node)
+        elif word.startswith("@"):
+            begun.append(len(found))
+            found.append((int(word[1:], 16), len(plain)))
+        else:
+            plain.append(word)
+    if begun != []:
+        raise AssertionError(f"nodes that have no end: {words}")
+    return plain, found
+
+
+def laid_out(words, gaps, end=""):
+    """The words, each behind its gap, then the end; and where each of them begins."""
+    text, starts = "", []
+    for word, gap in zip(words, gaps):
+        starts.append(len(text + gap))
+        text += gap + word
+    return text + end, starts
+
+
+def placed(found, words, starts):
+    """The nodes that without_marks tells, but by the places where their words begin and end."""
+    return [[kind, starts[first], starts[behind - 1] + len(words[behind - 1]), number]
+            for kind, first, behind, number in found]
+
+
+def least_gap(before, word):
+    """What must stand between two tokens: nothing if one of them is a sign that stays alone."""
+    alone = "()[]{},:^*+"
+    return "" if before == "" or before[-1] in alone or word[0] in alone else " "
 
 
 # The parts of trees, as the document's section on trees tells them.
@@ -328,7 +405,7 @@ class Oracle:
 class Told:
     """A tree's bytes told from the left by the document's sections on trees and on what is written.
 
-    Each method passes what it's called by and gives back what is written of it; nodes counts the kinds.
+    Each method passes what it's called by and gives back what is written of it; kinds has each node's kind.
     """
 
     SORTS = "whole fraction decimal half single double extended interval truth text flags error account value".split()
@@ -338,15 +415,15 @@ class Told:
     def __init__(self, tree):
         self.tree = tree
         self.passed = 0
-        self.nodes = 0
+        self.kinds = []
 
     def byte(self):
         self.passed += 1
         return self.tree[self.passed - 1]
 
     def kind(self):
-        self.nodes += 1
-        return self.byte()
+        self.kinds.append(self.byte())
+        return self.kinds[-1]
 
     def letters(self, size):
         return "".join(chr(self.byte()) for at in range(size))

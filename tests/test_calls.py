@@ -3,10 +3,10 @@
 import time
 import unittest
 
-from tests.helper import CALLS_OF_TREES, coded, count, counted, name, number, program, short
-from twigtext.calls import nodes, read, tokens, write
+from tests.helper import CALLS_OF_TREES, GREATEST, coded, count, counted, greatest_node, name, number, program, short
+from twigtext.calls import at, kinds, nodes, read, tokens, write
 
-ALL_CALLS = (tokens,) + CALLS_OF_TREES
+ALL_CALLS = (tokens, greatest_node) + CALLS_OF_TREES
 LONGEST = 65536
 SECONDS = 20
 
@@ -26,6 +26,8 @@ class Refusals(unittest.TestCase):
         self.assertEqual(read(text), [0, 11, 0x90, 1, 97, 0, 0, 0, 0, 0, 0, 0, 0])
         self.assertEqual(write(text), [0, 9] + coded("module a\n"))
         self.assertEqual(nodes(text), [0, 1])
+        self.assertEqual(at(0, text), [0, 0x90, 0, 8, 1])
+        self.assertEqual(kinds(text), [0, 1, 0x90, 1])
         self.all_answer(text + [32], [-1])
         self.all_answer([32] * 66000, [-1])
 
@@ -49,6 +51,15 @@ class Refusals(unittest.TestCase):
         self.assertEqual(tokens(coded("(" * 100 + " 01")), [-2, 1, 101])
         self.trees_answer(coded("module a let b = " + "(" * 100 + " 01"), [-2, 1, 118])
         self.trees_answer(coded("module a let b = " + "(" * 100), [-2, 3, 117])
+
+    def test_that_there_is_no_such_node_goes_last(self):
+        for k in (1, 2, GREATEST):
+            self.assertEqual(at(k, coded("module a")), [-4])
+            self.assertEqual(at(k, coded("module a") + [32] * LONGEST), [-1])
+            self.assertEqual(at(k, coded("module a let b = " + "(" * 101)), [-6])
+            self.assertEqual(at(k, coded("module a let b")), [-2, 3, 14])
+            self.assertEqual(at(k, coded("module a let if")), [-2, 2, 13])
+            self.assertEqual(at(k, coded("module a 01")), [-2, 1, 9])
 
     def test_tokens_is_refused_by_faults_of_tokens_alone(self):
         self.assertEqual(tokens(coded("module if")), [0, 2, 0, 0, 6, 0, 7, 9])
@@ -84,6 +95,9 @@ class InTime(unittest.TestCase):
         self.assertEqual(answer[:2], [0, len(words)])
         self.assertTrue(answer[2:] == coded(words))
         self.assertEqual(nodes(text), [0, number])
+        self.assertEqual(sum(kinds(text)[3::2]), number)
+        self.assertEqual(at(0, text), [0, 0x90, 0, len(text), number])
+        self.assertEqual(at(number, text), [-4])
 
 
 class LongTexts(InTime):
@@ -153,12 +167,18 @@ class DeepTexts(InTime):
         self.assertGreater(many, 10000)
         self.is_tree(text, program([0x80] + short("b") + [1] + sort + number("1")))
         self.is_written(text, "module a\n\nlet b: " + "fn() -> " * many + "whole = 1\n", many + 4)
+        for k in (0, 1, many // 2, many - 1):
+            self.assertEqual(at(2 + k, text), [0, 0x12, 15 + 6 * k, len(text) - 2, many + 1 - k])
+        self.assertEqual(at(2 + many, text), [0, 0x01, len(text) - 7, len(text) - 2, 1])
 
     def test_as_upon_as(self):
         text, many = self.filled("module a let b=c", " as account", "")
         self.assertGreater(many, 5000)
         self.is_tree(text, program([0x80] + short("b") + [0] + [0x34] * many + name("c") + [0x0D, 0, 0] * many))
         self.is_written(text, "module a\n\nlet b = c" + " as account" * many + "\n", 2 * many + 3)
+        for k in (0, 1, many // 2, many - 1):
+            self.assertEqual(at(2 + k, text), [0, 0x34, 15, len(text) - 11 * k, 2 * (many - k) + 1])
+        self.assertEqual(at(2 + many, text), [0, 0x25, 15, 16, 1])
 
     def test_or_upon_or(self):
         text, many = self.filled("module a let b=c", " or c as account", "")

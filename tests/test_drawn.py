@@ -8,9 +8,11 @@ so one tree has many texts.
 
 import random
 import unittest
+from collections import Counter
 
-from tests.helper import FLAGS, ROUNDINGS, Told, coded, counted, long, short, spelled_tokens
-from twigtext.calls import nodes, read, tokens, write
+from tests.helper import FLAGS, ROUNDINGS, Told, all_nodes_of, coded, counted, kinds_of, laid_out, least_gap, long
+from tests.helper import marked, node_of, nodes_of, placed, short, spelled_tokens, without_marks
+from twigtext.calls import at, nodes, read, tokens, write
 
 BINARY = (
     ("or", 0x40, 1, 1, 2), ("and", 0x41, 2, 2, 3), ("==", 0x42, 4, 5, 5), ("!=", 0x43, 4, 5, 5),
@@ -25,12 +27,16 @@ whole fraction decimal half single double extended interval truth text flags err
 
 
 class Drawer:
-    """Draws parts of programs: each as its tokens and its tree's bytes; expressions with their level too."""
+    """Draws parts of programs: each as its tokens, with its nodes marked, and its tree's bytes; expressions with
+    their level too. Of the program drawn last nodes has all nodes by their tokens, starts where each token of
+    the text spread last begins."""
 
     def __init__(self, seed, look=0, needless=0.1):
         self.lot = random.Random(seed)
         self.look = random.Random(f"{seed} {look}")
         self.needless = needless
+        self.nodes = []
+        self.starts = []
 
     def name(self):
         word = self.lot.choice(["a", "b9", "c_d", "e5", "n" * 31, "lets"])
@@ -70,6 +76,10 @@ class Drawer:
         return name + [":"] + sort, name_tree + sort_tree
 
     def sort(self, deep):
+        words, tree = self.any_sort(deep)
+        return marked(words, tree[0]), tree
+
+    def any_sort(self, deep):
         choice = self.lot.randint(0, 9 if deep > 0 else 3)
         if choice <= 2:
             word = self.lot.choice(SORT_WORDS)
@@ -107,6 +117,10 @@ class Drawer:
         return self.at_level(0, deep)
 
     def expression(self, deep):
+        words, tree, own = self.any_expression(deep)
+        return marked(words, tree[0]), tree, own
+
+    def any_expression(self, deep):
         if deep <= 0:
             return self.plain()
         draw = self.lot.choice([
@@ -206,7 +220,7 @@ class Drawer:
 
     def chain(self, deep, called):
         words, tree = self.name()
-        tree = [0x25] + tree
+        words, tree = marked(words, 0x25), [0x25] + tree
         for at in range(self.lot.randint(0, 3)):
             words, tree = self.link(words, tree, self.lot.choice("([."), deep)
         if called or tree[0] == 0x2B:
@@ -214,6 +228,10 @@ class Drawer:
         return words, tree
 
     def link(self, words, tree, sign, deep):
+        words, tree = self.any_link(words, tree, sign, deep)
+        return marked(words, tree[0]), tree
+
+    def any_link(self, words, tree, sign, deep):
         if sign == ".":
             name, name_tree = self.name()
             return words + ["."] + name, [0x2D] + tree + name_tree
@@ -230,7 +248,8 @@ class Drawer:
     def statement(self, deep):
         plain = [self.let, self.given, self.call, self.word, self.flags_given, self.spoken, self.yielded, self.posted]
         nested = [self.branches, self.loop, self.counting, self.matched, self.moded, self.tried]
-        return self.lot.choice(plain + nested if deep > 0 else plain)(deep - 1)
+        words, tree = self.lot.choice(plain + nested if deep > 0 else plain)(deep - 1)
+        return marked(words, tree[0]), tree
 
     def let(self, deep, kind=0x60):
         name, name_tree = self.name()
@@ -339,6 +358,10 @@ class Drawer:
         return ["try"] + block + caught + last, [0x6D] + tree + caught_tree + last_tree
 
     def declaration(self):
+        words, tree = self.any_declaration()
+        return marked(words, tree[0]), tree
+
+    def any_declaration(self):
         which = self.lot.randint(0, 5)
         if which == 0:
             return self.let(2, 0x80)
@@ -359,7 +382,8 @@ class Drawer:
         name, name_tree = self.name()
         used, used_trees = self.row(self.used, 0, 3, "")
         row, trees = self.row(self.declaration, 0, 3, "")
-        return ["module"] + name + used + row, [0x90] + name_tree + counted(*used_trees) + counted(*trees)
+        words, self.nodes = without_marks(marked(["module"] + name + used + row, 0x90))
+        return words, [0x90] + name_tree + counted(*used_trees) + counted(*trees)
 
     def used(self):
         name, tree = self.name()
@@ -367,16 +391,12 @@ class Drawer:
 
     def spread(self, words):
         """The tokens with all sorts of nothing between them, or none where none is needed."""
-        text = ""
-        for word in words:
-            gap = self.look.choice([" ", "\n", ";", " # c\n", "  ", ""])
-            text += (gap or self.needed_gap(text, word)) + word
-        return text + self.look.choice(["", "\n", " # end"])
-
-    def needed_gap(self, text, word):
-        """Two tokens need nothing between them if one of them is a sign that stays alone."""
-        alone = "()[]{},:^*+"
-        return "" if text == "" or text[-1] in alone or word[0] in alone else " "
+        gaps = [
+            self.look.choice([" ", "\n", ";", " # c\n", "  ", ""]) or least_gap(before, word)
+            for before, word in zip([""] + words, words)
+        ]
+        text, self.starts = laid_out(words, gaps, self.look.choice(["", "\n", " # end"]))
+        return text
 
 
 def changed(lot, text):
@@ -452,7 +472,7 @@ class DrawnAndWritten(unittest.TestCase):
             text = coded(drawer.spread(words))
             told = Told(tree)
             self.assertEqual("".join(map(chr, self.written(text))), told.program(), f"seed {seed}")
-            self.assertEqual(nodes(text), [0, told.nodes], f"seed {seed}")
+            self.assertEqual(nodes(text), [0, len(told.kinds)], f"seed {seed}")
 
     def test_what_is_written_is_read_as_the_same_tree(self):
         for seed in range(1000):
@@ -495,6 +515,76 @@ class DrawnAndWritten(unittest.TestCase):
             written = "".join(map(chr, self.written(coded(" ".join(words)))))
             spelled = [word for kind, word in spelled_tokens(written)]
             self.assertEqual(without_sets(spelled), without_sets(words), f"seed {seed}")
+
+
+class DrawnNodes(unittest.TestCase):
+    def test_each_node_stands_where_it_was_put(self):
+        for seed in range(120):
+            drawer = Drawer(seed)
+            words, tree = drawer.program()
+            text = drawer.spread(words)
+            self.assertEqual(all_nodes_of(text), placed(drawer.nodes, words, drawer.starts), f"seed {seed}: {text}")
+
+    def test_nodes_of_more_programs(self):
+        for seed in range(120, 1000):
+            drawer = Drawer(seed, 0, 0.4 * (seed % 2))
+            words, tree = drawer.program()
+            text = drawer.spread(words)
+            found = placed(drawer.nodes, words, drawer.starts)
+            for k in sorted({0, drawer.look.randrange(len(found)), len(found) - 1}):
+                self.assertEqual(node_of(k, text), found[k], f"seed {seed}, node {k}: {text}")
+            self.assertEqual(at(len(found), coded(text)), [-4], f"seed {seed}")
+
+    def test_places_lie_in_one_another_as_nodes_do(self):
+        """T4: of programs with a byte changed, left out or put in, too."""
+        found = 0
+        for seed in range(200, 260):
+            drawer = Drawer(seed, 0, 0.3)
+            text = coded(drawer.spread(drawer.program()[0]))
+            self.lie_in_one_another("".join(map(chr, text)))
+            for change in range(3):
+                other = changed(drawer.lot, text)
+                if read(other)[0] == 0:
+                    found += 1
+                    self.lie_in_one_another("".join(map(chr, other)))
+        self.assertGreater(found, 20)
+
+    def lie_in_one_another(self, text):
+        """A node's nodes are those that follow it, as many as it has: these lie in it, others behind it."""
+        answers = all_nodes_of(text)
+        self.assertEqual(answers[0][3], nodes_of(text))
+        for k, (kind, start, end, number) in enumerate(answers):
+            self.assertTrue(0 <= start < end <= len(text))
+            for inner in answers[k + 1:k + number]:
+                self.assertTrue(start <= inner[1] and inner[2] <= end, (text, k))
+            for behind in answers[k + number:]:
+                self.assertLessEqual(end, behind[1], (text, k))
+
+    def test_places_are_those_of_tokens(self):
+        for seed in range(260, 300):
+            drawer = Drawer(seed)
+            words, tree = drawer.program()
+            text = drawer.spread(words)
+            ends = [start + len(word) for start, word in zip(drawer.starts, words)]
+            for kind, start, end, number in all_nodes_of(text):
+                self.assertIn(start, drawer.starts)
+                self.assertIn(end, ends)
+
+    def test_the_kinds_add_up_to_the_nodes(self):
+        for seed in range(1000):
+            drawer = Drawer(seed)
+            words, tree = drawer.program()
+            text = drawer.spread(words)
+            told = Told(tree)
+            told.program()
+            self.assertEqual(kinds_of(text), sorted(Counter(told.kinds).items()), f"seed {seed}")
+            self.assertEqual(sum(number for kind, number in kinds_of(text)), nodes_of(text), f"seed {seed}")
+
+    def test_a_node_is_one_of_its_kind(self):
+        for seed in range(300, 340):
+            drawer = Drawer(seed)
+            text = drawer.spread(drawer.program()[0])
+            self.assertEqual(kinds_of(text), sorted(Counter(node[0] for node in all_nodes_of(text)).items()))
 
 
 def without_sets(words):

@@ -1,9 +1,12 @@
-"""Every sentence of the document's example that speaks of tokens, read, write or nodes."""
+"""Every sentence of the document's example."""
 
 import unittest
 
-from tests.helper import CALLS_OF_TREES, coded, declaration_of, number, short, tokens_of, tree_of, written_declaration
-from twigtext.calls import nodes, read, tokens, write
+from tests.helper import (
+    CALLS_OF_TREES, GREATEST, coded, declaration_of, greatest_node, number, short, tokens_of, tree_of,
+    written_declaration,
+)
+from twigtext.calls import at, kinds, nodes, read, tokens, write
 
 EXAMPLE = "module a fn f(x:whole)->whole{return -x^2}"
 
@@ -59,6 +62,29 @@ class Example(unittest.TestCase):
         self.assertEqual(nodes(coded(EXAMPLE)), [0, 9])
         self.assertEqual(nodes(coded(WRITTEN)), [0, 9])
 
+    def test_node_6(self):
+        self.assertEqual(at(6, coded(EXAMPLE)), [0, 78, 38, 41, 3])
+
+    def test_each_node(self):
+        found = (
+            (0x90, EXAMPLE, 9), (0x83, "fn f(x:whole)->whole{return -x^2}", 8), (0x01, "whole)", 1),
+            (0x01, "whole{", 1), (0x68, "return -x^2", 5), (0x2E, "-x^2", 4), (0x4E, "x^2", 3), (0x25, "x^", 1),
+            (0x20, "2", 1),
+        )
+        for k, (kind, words, number) in enumerate(found):
+            start = EXAMPLE.index(words)
+            end = start + len(words.rstrip("){^"))
+            self.assertEqual(at(k, coded(EXAMPLE)), [0, kind, start, end, number], words)
+
+    def test_there_is_no_node_9(self):
+        for k in (9, 10, 42, GREATEST):
+            self.assertEqual(at(k, coded(EXAMPLE)), [-4])
+
+    def test_its_kinds(self):
+        found = [0x01, 2, 0x20, 1, 0x25, 1, 0x2E, 1, 0x4E, 1, 0x68, 1, 0x83, 1, 0x90, 1]
+        self.assertEqual(kinds(coded(EXAMPLE)), [0, 8] + found)
+        self.assertEqual(kinds(coded(WRITTEN)), [0, 8] + found)
+
     def test_needless_parentheses_leave_none(self):
         inner = [0x49] + number("2") + number("3")
         value = [0x44, 0x49] + number("1") + inner + number("4")
@@ -68,7 +94,7 @@ class Example(unittest.TestCase):
 
     def test_each_fault(self):
         for words, rule, place in FAULTS:
-            for call in CALLS_OF_TREES:
+            for call in CALLS_OF_TREES + (greatest_node,):
                 with self.subTest(words, call=call):
                     self.assertEqual(call(coded(words)), [-2, rule, place])
 

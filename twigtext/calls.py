@@ -4,7 +4,7 @@ from twigtext.depth import depth
 from twigtext.parse import parse
 from twigtext.refusals import Fault, Refused, TooDeep, TooLong
 from twigtext.scan import scan
-from twigtext.tree import count_nodes, tree_bytes
+from twigtext.tree import kinds_within, node_within, nodes_within, tree_bytes
 from twigtext.writing import written
 
 MOST_BYTES = 65536
@@ -48,7 +48,31 @@ def nodes(text):
         tree = parse_allowed(text)
     except Refused as e:
         return e.numbers
-    return [0, count_nodes(tree)]
+    return [0, len(nodes_within(tree))]
+
+
+def at(k, text):
+    """Node k of the text's tree: its kind, where its tokens begin, the place right behind them, its nodes."""
+    try:
+        scanned = scan_allowed(text)
+        node = node_within(parse(text, scanned), k)
+    except Refused as e:
+        return e.numbers
+    start = scanned.found[node.first].start
+    end = scanned.found[node.behind - 1].end
+    return [0, node.form, start, end, len(nodes_within(node))]
+
+
+def kinds(text):
+    """The kinds of which the text's tree has nodes: how many, then of each the kind and how many nodes."""
+    try:
+        found = kinds_within(parse_allowed(text))
+    except Refused as e:
+        return e.numbers
+    answer = [0, len(found)]
+    for kind in sorted(found):
+        answer.extend([kind, found[kind]])
+    return answer
 
 
 def parse_allowed(text):

@@ -6,7 +6,8 @@ and a row of what then comes, from the left:
 - "@row", "@count", "@set": here parts begin that stand together; their count is put before them, or they
   are the numbers of a set's bits;
 - "@take": the part that stood last before what was begun last becomes its first part;
-- a tuple: bytes that stand in the tree as they are;
+- ("@turn", kind): what was begun last turns out to be a node of that kind;
+- any other tuple: bytes that stand in the tree as they are;
 - a part of a program in < >, or a token: NAME, CODE, NUMBER, TEXT, or the keyword or sign itself.
 
 One token always tells which choice it is. Behind the tokens END stands, if the text has no fault.
@@ -55,12 +56,12 @@ RULES = {
         ("list", (0x10, "list", "of", "<sort>", "@end")),
         ("fibre", (0x11, "fibre", "<of sort>", "@end")),
         ("fn", (0x12, "fn", "(", "@count", "<sorts>", "@end", ")", "<result>", "@end")),
-        ("NAME", ("NAME", "<sort of a name>")),
+        ("NAME", (0x13, "NAME", "<of a module>", "@end")),
     ),
     "<of sort>": (("of", ("of", (1,), "<sort>")), ("", ((0,),))),
     "<sorts>": ((")", ()), ("", ("<sort>", "<more sorts>"))),
     "<more sorts>": ((",", (",", "<sort>", "<more sorts>")), ("", ())),
-    "<sort of a name>": ((".", (0x14, "@take", ".", "NAME", "@end")), ("", (0x13, "@take", "@end"))),
+    "<of a module>": ((".", (("@turn", 0x14), ".", "NAME")), ("", ())),
 
     "<block>": (("", ("@count", "{", "<statements>", "}", "@end")),),
     "<statements>": (("}", ()), ("", ("<statement>", "<statements>"))),
@@ -224,16 +225,17 @@ RULES = {
         ("NAME", ("<name>",)),
         ("CODE", (0x26, "CODE", "@end")),
         ("only", (0x27, "only", "(", "@set", "<flags>", "@end", ")", "@end")),
-        ("(", ("(", "<expression>", ")")),
-        ("[", ("[", "<listed>", "]")),
+        # Parentheses are no part of the expression, but of what takes it: so a row that is no node begins with them.
+        ("(", ("@row", "(", "<expression>", ")", "@end")),
+        ("[", (0x28, "[", "<listed>", "]", "@end")),
         ("make", (0x2A, "make", "NAME", "<made>", "(", "@count", "<settings>", "@end", ")", "@end")),
     ),
     "<flags>": ((")", ()), ("", ("<flag>", "<more flags>"))),
     "<more flags>": ((",", (",", "<flag>", "<more flags>")), ("", ())),
-    "<listed>": (("]", (0x28, "@count", "@end", "@end")), ("", ("<expression>", "<more listed>"))),
+    "<listed>": (("]", ("@count", "@end")), ("", ("<expression>", "<more listed>"))),
     "<more listed>": (
-        ("..", (0x29, "@take", "..", "<expression>", "@end")),
-        ("", ("@count", "@take", "<more expressions>", "@end", 0x28, "@take", "@end")),
+        ("..", (("@turn", 0x29), "..", "<expression>")),
+        ("", ("@count", "@take", "<more expressions>", "@end")),
     ),
     # The byte that tells of a module stands before the first name, and only behind that it's known.
     "<made>": ((".", ("@row", (1,), "@take", ".", "NAME", "@end")), ("", ("@row", (0,), "@take", "@end"))),

@@ -36,15 +36,21 @@ class Reader:
 
     def step(self, symbol):
         if isinstance(symbol, int) or symbol in ("@row", "@count", "@set"):
-            self.growth.begin(symbol)
+            self.growth.begin(symbol, self.passed)
         elif isinstance(symbol, tuple):
-            self.growth.put(list(symbol))
+            self.grow(symbol)
         elif symbol == "@take":
             self.growth.take()
         elif symbol == "@end":
-            self.growth.finish()
+            self.growth.finish(self.passed)
         else:
             self.meet(symbol, self.ahead())
+
+    def grow(self, symbol):
+        if symbol[0] == "@turn":
+            self.growth.turn(symbol[1])
+        else:
+            self.growth.put(list(symbol))
 
     def meet(self, symbol, look):
         """The symbol is the token itself, or a part of a program that may begin with it."""

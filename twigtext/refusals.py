@@ -22,6 +22,13 @@ class TooDeep(Refused):
         Refused.__init__(self, [-6])
 
 
+class NoNode(Refused):
+    """A node is asked for that the tree doesn't have."""
+
+    def __init__(self):
+        Refused.__init__(self, [-4])
+
+
 class Fault(Refused):
     """A text that isn't right: the rule that it breaks, and where."""
 

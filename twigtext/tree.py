@@ -1,34 +1,52 @@
-"""Trees: how one is put together from the left, and the bytes that it's told in."""
+"""Trees: how one is put together from the left, the bytes that it's told in, and its nodes."""
+
+from twigtext.refusals import NoNode
 
 
 class Twig:
     """A node, by its kind, or parts that stand together, by the grammar's "@row", "@count" or "@set".
 
-    A part is a list of bytes or a twig.
+    A part is a list of bytes or a twig. A twig's tokens go from its first one up to the one behind its last;
+    both are told by how many tokens stand before them.
     """
 
-    def __init__(self, form):
+    def __init__(self, form, first):
         self.form = form
         self.parts = []
+        self.first = first
+        self.behind = first
 
 
 class Growth:
     """The twigs that have begun and not ended, the outermost first."""
 
     def __init__(self):
-        self.begun = [Twig("@row")]
+        self.begun = [Twig("@row", 0)]
 
-    def begin(self, form):
-        self.begun.append(Twig(form))
+    def begin(self, form, passed):
+        """Here, behind so many tokens, a twig begins."""
+        self.begun.append(Twig(form, passed))
+
+    def turn(self, kind):
+        """What was begun last turns out to be a node of that kind."""
+        twig = self.begun[-1]
+        twig.form = kind
 
     def put(self, part):
         self.begun[-1].parts.append(part)
 
     def take(self):
-        self.put(self.begun[-2].parts.pop())
+        """The part that stood last before what was begun last becomes its first part: so it begins with it."""
+        twig = self.begun[-1]
+        part = self.begun[-2].parts.pop()
+        if isinstance(part, Twig):
+            twig.first = part.first
+        twig.parts.append(part)
 
-    def finish(self):
+    def finish(self, passed):
+        """Here, behind so many tokens, ends what was begun last."""
         twig = self.begun.pop()
+        twig.behind = passed
         if twig.form == "@set":
             self.put([set_byte(twig.parts)])
         else:
@@ -59,15 +77,32 @@ def tree_bytes(twig):
     return told
 
 
-def count_nodes(twig):
-    """How many nodes a twig and all within it are: those twigs that have a kind."""
-    found = 0
+def nodes_within(twig):
+    """The twig and all twigs within it that are nodes, as those that have a kind are, in the tree's order."""
+    found = []
     parts = [twig]
     while len(parts) > 0:
         part = parts.pop()
         if isinstance(part, Twig):
-            found += 1 if isinstance(part.form, int) else 0
-            parts.extend(part.parts)
+            if isinstance(part.form, int):
+                found.append(part)
+            parts.extend(part.parts[::-1])
+    return found
+
+
+def node_within(twig, k):
+    """The node of the twig before which there are k others in the tree's order."""
+    found = nodes_within(twig)
+    if k >= len(found):
+        raise NoNode()
+    return found[k]
+
+
+def kinds_within(twig):
+    """By each kind of which the twig has nodes: how many."""
+    found = {}
+    for node in nodes_within(twig):
+        found[node.form] = found.get(node.form, 0) + 1
     return found
 
 
