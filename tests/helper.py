@@ -1,7 +1,7 @@
 """What the tests share: texts as bytes, the parts of trees, the document's grammar read by itself, and its
 written forms told by themselves."""
 
-from twigtext.calls import at, kinds, nodes, read, tokens, write
+from twigtext.calls import at, kinds, names, nodes, read, same, tokens, write
 
 GREATEST = 4294967295
 
@@ -14,7 +14,19 @@ def greatest_node(text):
     return at(GREATEST, text)
 
 
-CALLS_OF_TREES = (read, write, nodes, kinds, first_node)
+def same_as_itself(text):
+    return same(text, text)
+
+
+def same_as_another(text):
+    return same(text, [ord(letter) for letter in "module a"])
+
+
+def another_as_this(text):
+    return same([ord(letter) for letter in "module a"], text)
+
+
+CALLS_OF_TREES = (read, write, nodes, kinds, first_node, names, same_as_itself, same_as_another, another_as_this)
 
 KEYWORDS = """
 account and as away both break catch clear cut decimal double down else error extended false fibre finally five
@@ -99,6 +111,28 @@ def kinds_of(words):
     if answer[0] != 0 or len(answer) != 2 + 2 * answer[1]:
         raise AssertionError(f"{words!r}: {answer}")
     return [tuple(answer[place:place + 2]) for place in range(2, len(answer), 2)]
+
+
+def names_of(words):
+    """The names that are answered."""
+    answer = names(coded(words))
+    if answer[0] != 0:
+        raise AssertionError(f"{words!r} is refused: {answer}")
+    found, place = [], 2
+    while place < len(answer):
+        found.append("".join(chr(byte) for byte in answer[place + 1:place + 1 + answer[place]]))
+        place += 1 + answer[place]
+    if len(found) != answer[1] or place != len(answer):
+        raise AssertionError(f"{words!r}: the count is off: {answer}")
+    return found
+
+
+def are_same(words, others):
+    """Whether it's answered that both have one tree."""
+    answer = same(coded(words), coded(others))
+    if answer not in ([0, 0], [0, 1]):
+        raise AssertionError(f"{words!r} and {others!r}: {answer}")
+    return answer == [0, 1]
 
 
 # Words in which nodes are marked: "@48" begins a node of that kind, "@" ends the one that was begun last.
@@ -405,7 +439,8 @@ class Oracle:
 class Told:
     """A tree's bytes told from the left by the document's sections on trees and on what is written.
 
-    Each method passes what it's called by and gives back what is written of it; kinds has each node's kind.
+    Each method passes what it's called by and gives back what is written of it; kinds has each node's kind,
+    names each name.
     """
 
     SORTS = "whole fraction decimal half single double extended interval truth text flags error account value".split()
@@ -416,6 +451,7 @@ class Told:
         self.tree = tree
         self.passed = 0
         self.kinds = []
+        self.names = set()
 
     def byte(self):
         self.passed += 1
@@ -430,6 +466,11 @@ class Told:
 
     def word(self):
         return self.letters(self.byte())
+
+    def name(self):
+        word = self.word()
+        self.names.add(word)
+        return word
 
     def text(self):
         held = self.letters(self.byte() + 256 * self.byte())
@@ -463,7 +504,7 @@ class Told:
             return "fibre" + self.maybe(" of ", self.sort)
         if kind == 0x12:
             return f"fn({self.row(self.sort)})" + self.maybe(" -> ", self.sort)
-        return self.word() if kind == 0x13 else f"{self.word()}.{self.word()}"
+        return self.name() if kind == 0x13 else f"{self.name()}.{self.name()}"
 
     def value(self, level=0):
         own, words = self.value_and_level()
@@ -475,14 +516,14 @@ class Told:
             return self.between_two(self.SIGNS[kind - 0x40])
         return {
             0x20: lambda: (11, self.word()), 0x21: lambda: (11, self.text()), 0x22: lambda: (11, "true"),
-            0x23: lambda: (11, "false"), 0x24: lambda: (11, "flags"), 0x25: lambda: (11, self.word()),
+            0x23: lambda: (11, "false"), 0x24: lambda: (11, "flags"), 0x25: lambda: (11, self.name()),
             0x26: lambda: (11, self.word()), 0x27: lambda: (11, f"only({self.flags(', ')})"),
             0x28: lambda: (11, f"[{self.row(self.value)}]"),
             0x29: lambda: (11, f"[{self.value()} .. {self.value()}]"),
             0x2A: lambda: (11, f"make {self.made()}({self.row(self.setting)})"),
             0x2B: lambda: (10, f"{self.value(10)}({self.row(self.value)})"),
             0x2C: lambda: (10, f"{self.value(10)}[{self.value()}]"),
-            0x2D: lambda: (10, f"{self.value(10)}.{self.word()}"),
+            0x2D: lambda: (10, f"{self.value(10)}.{self.name()}"),
             0x2E: lambda: (8, f"-{self.value(8)}"), 0x2F: lambda: (3, f"not {self.value(3)}"),
             0x30: lambda: (8, f"spawn {self.value(10)}"),
             0x31: lambda: (8, f"resume {self.value(10)}" + self.maybe(" giving ", lambda: self.value(8))),
@@ -497,10 +538,10 @@ class Told:
         return own, f"{self.value(left)} {sign} {self.value(right)}"
 
     def made(self):
-        return f"{self.word()}.{self.word()}" if self.byte() == 1 else self.word()
+        return f"{self.name()}.{self.name()}" if self.byte() == 1 else self.name()
 
     def setting(self):
-        return f"{self.word()}: {self.value()}"
+        return f"{self.name()}: {self.value()}"
 
     def rounding(self):
         byte = self.byte()
@@ -523,22 +564,22 @@ class Told:
             0x64: lambda: " else ".join(self.each(lambda: f"if {self.value()} {self.block(deep)}"))
             + self.maybe(" else ", lambda: self.block(deep)),
             0x65: lambda: f"while {self.value()} {self.block(deep)}",
-            0x66: lambda: f"for {self.word()} in {self.value()}{self.maybe(' to ', self.value)} {self.block(deep)}",
+            0x66: lambda: f"for {self.name()} in {self.value()}{self.maybe(' to ', self.value)} {self.block(deep)}",
             0x67: lambda: f"match {self.value()} {self.cases(deep)}",
             0x68: lambda: f"return {self.value()}", 0x69: lambda: "leave", 0x6A: lambda: "break",
             0x6B: lambda: "next", 0x6C: lambda: f"with {self.row(self.mode)} {self.block(deep)}",
-            0x6D: lambda: f"try {self.block(deep)}" + self.maybe(" catch ", lambda: f"{self.word()} {self.block(deep)}")
+            0x6D: lambda: f"try {self.block(deep)}" + self.maybe(" catch ", lambda: f"{self.name()} {self.block(deep)}")
             + self.maybe(" finally ", lambda: self.block(deep)),
             0x6E: lambda: f"raise {self.value()}", 0x6F: lambda: f"say {self.row(self.value)}",
-            0x70: lambda: f"yield {self.value()}" + self.maybe(" into ", self.word),
+            0x70: lambda: f"yield {self.value()}" + self.maybe(" into ", self.name),
             0x71: lambda: f"post {self.value()}: {self.value()} from {self.value()}" + self.maybe(" ", self.text),
         }[kind]()
 
     def let(self):
-        return f"let {self.word()}{self.maybe(': ', self.sort)} = {self.value()}"
+        return f"let {self.name()}{self.maybe(': ', self.sort)} = {self.value()}"
 
     def cases(self, deep):
-        rows = self.each(lambda: f"is {self.sort()} {self.word()} {self.block(deep + 1)}")
+        rows = self.each(lambda: f"is {self.sort()} {self.name()} {self.block(deep + 1)}")
         last = self.maybe("else ", lambda: self.block(deep + 1))
         return self.lines(rows + [last] if last else rows, deep)
 
@@ -551,25 +592,25 @@ class Told:
         return "trap " + self.flags(" ") if which == 2 else "flush " + ["in", "out", "both"][self.byte()]
 
     def field(self):
-        return f"{self.word()}: {self.sort()}"
+        return f"{self.name()}: {self.sort()}"
 
     def declaration(self):
         kind = self.kind()
         if kind == 0x80:
             return self.let()
         if kind == 0x82:
-            return f"account {self.word()} {self.word()}"
-        name = self.word()
+            return f"account {self.name()} {self.word()}"
+        name = self.name()
         if kind == 0x81:
             fields = self.row(self.field)
             return f"record {name} " + ("{ " + fields + " }" if fields else "{}")
-        sorts = self.row(self.word)
+        sorts = self.row(self.name)
         head = f"fn {name}" + (f"[{sorts}]" if sorts else "")
         return head + f"({self.row(self.field)})" + self.maybe(" -> ", self.sort) + " " + self.block(0)
 
     def program(self):
         self.kind()
-        words = f"module {self.word()}\n" + "".join(self.each(lambda: f"use {self.word()}\n"))
+        words = f"module {self.name()}\n" + "".join(self.each(lambda: f"use {self.name()}\n"))
         words += "".join(self.each(lambda: f"\n{self.declaration()}\n"))
         if self.passed != len(self.tree):
             raise AssertionError(f"{len(self.tree) - self.passed} bytes of the tree are left")

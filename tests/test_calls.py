@@ -1,10 +1,11 @@
 """The calls: the order of refusals, long and deep texts, what is handed in, what is answered."""
 
+import re
 import time
 import unittest
 
 from tests.helper import CALLS_OF_TREES, GREATEST, coded, count, counted, greatest_node, name, number, program, short
-from twigtext.calls import at, kinds, nodes, read, tokens, write
+from twigtext.calls import at, kinds, names, nodes, read, same, tokens, write
 
 ALL_CALLS = (tokens, greatest_node) + CALLS_OF_TREES
 LONGEST = 65536
@@ -28,6 +29,9 @@ class Refusals(unittest.TestCase):
         self.assertEqual(nodes(text), [0, 1])
         self.assertEqual(at(0, text), [0, 0x90, 0, 8, 1])
         self.assertEqual(kinds(text), [0, 1, 0x90, 1])
+        self.assertEqual(names(text), [0, 1, 1, 97])
+        self.assertEqual(same(text, coded("module a")), [0, 1])
+        self.assertEqual(same(coded("module b"), text), [0, 0])
         self.all_answer(text + [32], [-1])
         self.all_answer([32] * 66000, [-1])
 
@@ -98,6 +102,9 @@ class InTime(unittest.TestCase):
         self.assertEqual(sum(kinds(text)[3::2]), number)
         self.assertEqual(at(0, text), [0, 0x90, 0, len(text), number])
         self.assertEqual(at(number, text), [-4])
+        self.assertEqual(names(text)[:3], [0, len(set(re.findall(r"\b[a-f]\b", words))), 1])
+        if len(words) <= LONGEST:
+            self.assertEqual(same(text, coded(words)), [0, 1])
 
 
 class LongTexts(InTime):
@@ -234,6 +241,26 @@ class HandedIn(unittest.TestCase):
         for words in self.TEXTS:
             for call in ALL_CALLS:
                 self.assertEqual(call(Unchanging(coded(words))), call(coded(words)))
+
+    def test_two_lists_are_not_changed_either(self):
+        for words in self.TEXTS:
+            for others in self.TEXTS:
+                text, other = Unchanging(coded(words)), Unchanging(coded(others))
+                self.assertEqual(same(text, other), same(coded(words), coded(others)))
+                self.assertEqual((text, other), (coded(words), coded(others)))
+
+    def test_two_texts_a_second_time(self):
+        pairs = [(words, others, same(coded(words), coded(others))) for words in self.TEXTS for others in self.TEXTS]
+        for words, others, answer in reversed(pairs):
+            self.assertEqual(same(coded(words), coded(others)), answer)
+            names(coded(others))
+            self.assertEqual(same(coded(words), coded(others)), answer)
+
+    def test_no_node_is_kept(self):
+        texts = [coded("module a let b = -1"), coded("module a"), coded("module a fn f() { leave }")]
+        answers = [[0, 0x2E, 17, 19, 2], [-4], [0, 0x69, 18, 23, 1]]
+        for text, answer in list(zip(texts, answers)) + list(zip(texts[::-1], answers[::-1])):
+            self.assertEqual(at(2, text), answer)
 
     def test_a_second_call_answers_as_the_first(self):
         answers = [(call, words, call(coded(words))) for words in self.TEXTS for call in ALL_CALLS]

@@ -28,18 +28,20 @@ whole fraction decimal half single double extended interval truth text flags err
 
 class Drawer:
     """Draws parts of programs: each as its tokens, with its nodes marked, and its tree's bytes; expressions with
-    their level too. Of the program drawn last nodes has all nodes by their tokens, starts where each token of
-    the text spread last begins."""
+    their level too. names has all names that were drawn; nodes has all nodes of the program drawn last by their
+    tokens, starts where each token of the text spread last begins."""
 
     def __init__(self, seed, look=0, needless=0.1):
         self.lot = random.Random(seed)
         self.look = random.Random(f"{seed} {look}")
         self.needless = needless
+        self.names = set()
         self.nodes = []
         self.starts = []
 
     def name(self):
-        word = self.lot.choice(["a", "b9", "c_d", "e5", "n" * 31, "lets"])
+        word = self.lot.choice(["a", "b9", "c_d", "e5", "n" * 31, "lets", "a0", "a_", "ab", "c_", "n" * 30, "b99"])
+        self.names.add(word)
         return [word], short(word)
 
     def number(self):

@@ -6,7 +6,7 @@ from tests.helper import (
     CALLS_OF_TREES, GREATEST, coded, declaration_of, greatest_node, number, short, tokens_of, tree_of,
     written_declaration,
 )
-from twigtext.calls import at, kinds, nodes, read, tokens, write
+from twigtext.calls import at, kinds, names, nodes, read, same, tokens, write
 
 EXAMPLE = "module a fn f(x:whole)->whole{return -x^2}"
 
@@ -84,6 +84,23 @@ class Example(unittest.TestCase):
         found = [0x01, 2, 0x20, 1, 0x25, 1, 0x2E, 1, 0x4E, 1, 0x68, 1, 0x83, 1, 0x90, 1]
         self.assertEqual(kinds(coded(EXAMPLE)), [0, 8] + found)
         self.assertEqual(kinds(coded(WRITTEN)), [0, 8] + found)
+
+    def test_its_names(self):
+        self.assertEqual(names(coded(EXAMPLE)), [0, 3, 1, 97, 1, 102, 1, 120])
+        self.assertEqual(names(coded(WRITTEN)), [0, 3, 1, 97, 1, 102, 1, 120])
+
+    def test_it_and_its_text_have_one_tree(self):
+        self.assertEqual(same(coded(EXAMPLE), coded(WRITTEN)), [0, 1])
+        self.assertEqual(same(coded(WRITTEN), coded(EXAMPLE)), [0, 1])
+        self.assertEqual(same(coded(EXAMPLE), coded(EXAMPLE.replace("2", "3"))), [0, 0])
+
+    def test_faults_of_two_texts(self):
+        """That of the first is told, of the second if the first is right."""
+        for words, rule, place in FAULTS:
+            self.assertEqual(same(coded(words), coded(EXAMPLE)), [-2, rule, place])
+            self.assertEqual(same(coded(EXAMPLE), coded(words)), [-2, rule, place])
+            for others, other_rule, other_place in FAULTS:
+                self.assertEqual(same(coded(words), coded(others)), [-2, rule, place])
 
     def test_needless_parentheses_leave_none(self):
         inner = [0x49] + number("2") + number("3")

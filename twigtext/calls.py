@@ -1,6 +1,7 @@
-"""The calls: each takes a text, a list of bytes, and answers a list of whole numbers."""
+"""The calls: each takes a text, a list of bytes, or two of them, and answers a list of whole numbers."""
 
 from twigtext.depth import depth
+from twigtext.leaves import different_names
 from twigtext.parse import parse
 from twigtext.refusals import Fault, Refused, TooDeep, TooLong
 from twigtext.scan import scan
@@ -75,6 +76,36 @@ def kinds(text):
     return answer
 
 
+def names(text):
+    """The different names in the text's tree, rising: how many, then of each how many bytes, then the bytes."""
+    try:
+        scanned = scan_allowed(text)
+        # Each name among a program's tokens stands in its tree: so all that is asked is whether it's a program.
+        parse(text, scanned)
+    except Refused as e:
+        return e.numbers
+    found = different_names(text, scanned.found)
+    answer = [0, len(found)]
+    for name in found:
+        answer.append(len(name))
+        answer.extend(name)
+    return answer
+
+
+def same(text, other):
+    """1 if both texts have one tree, 0 if not."""
+    try:
+        refuse_long(text)
+        refuse_long(other)
+        scanned = scan_shallow(text)
+        scanned_other = scan_shallow(other)
+        tree = tree_bytes(parse(text, scanned))
+        other_tree = tree_bytes(parse(other, scanned_other))
+    except Refused as e:
+        return e.numbers
+    return [0, 1 if tree == other_tree else 0]
+
+
 def parse_allowed(text):
     """The tree of a text that isn't refused."""
     return parse(text, scan_allowed(text))
@@ -82,8 +113,17 @@ def parse_allowed(text):
 
 def scan_allowed(text):
     """The text's tokens, and their fault if there is one, of a text neither too long nor too deep."""
+    refuse_long(text)
+    return scan_shallow(text)
+
+
+def refuse_long(text):
     if len(text) > MOST_BYTES:
         raise TooLong()
+
+
+def scan_shallow(text):
+    """The text's tokens, and their fault if there is one, of a text that isn't too deep."""
     scanned = scan(text)
     if depth(scanned.found) > MOST_DEPTH:
         raise TooDeep()

@@ -1,6 +1,6 @@
 """Leaves: the bytes by which names, codes, numbers and texts stand in a tree, and texts in a text again."""
 
-from twigtext.scan import BACKSLASH, KEYWORD, LINE_END, QUOTE, SIGN, SMALL_N, TEXT
+from twigtext.scan import BACKSLASH, KEYWORD, LINE_END, NAME, QUOTE, SIGN, SMALL_N, TEXT
 from twigtext.tree import low_first
 
 
@@ -12,6 +12,11 @@ def leaf_bytes(text, token):
         held = item_bytes(text[token.start + 1:token.end - 1])
         return low_first(len(held), 2) + held
     return [token.end - token.start] + text[token.start:token.end]
+
+
+def different_names(text, found):
+    """The names among the tokens, each once, rising byte by byte."""
+    return sorted(set([tuple(text[token.start:token.end]) for token in found if token.kind == NAME]))
 
 
 def item_bytes(items):
